@@ -1,0 +1,27 @@
+package weave_test
+
+import (
+	"fmt"
+
+	"weave/weave"
+)
+
+func ExampleCheck() {
+	fmt.Println(weave.Check("=a1;wxa|rax;wya"))
+	fmt.Println(weave.Check("=a1;wxa|rax;"))
+	fmt.Println(weave.Check("=a1;wxa|j9"))
+	// Output:
+	// 0 0
+	// 2 12
+	// 3 9
+}
+
+func ExamplePlay() {
+	fmt.Println(weave.Play("=a1;wxa|rax;wya", 8, "0011"))
+	fmt.Println(weave.Play("=a1;wxa|rax;wya", 8, "0110"))
+	fmt.Println(weave.Play("=a1;wxa|rax;wya", 1, "01"))
+	// Output:
+	// EE:110 0 0
+	// EE:100 0 0
+	// O1O1:000 0 0
+}
