@@ -3,6 +3,7 @@ package weave_test
 import (
 	"fmt"
 	"math"
+	"slices"
 	"strings"
 	"sync"
 	"testing"
@@ -71,7 +72,26 @@ func TestP1BesideErrors(t *testing.T) {
 		if errno == weave.OK && playErrno != weave.ErrTurn && playPlace != 0 {
 			t.Errorf("Play(%.80q, %d, %.80q) = %q %d %d", program, fuel, row, end, playErrno, playPlace)
 		}
+		expectBesideSearch(t, program, fuel, row)
 	})
+}
+
+// expectBesideSearch asks of Ends and Show that they answer an error of Check
+// as Check does, no place beside another one, and nothing else beside any.
+func expectBesideSearch(t *testing.T, program string, fuel int, end string) {
+	t.Helper()
+	errno, place := weave.Check(program)
+	all, endsErrno, endsPlace := weave.Ends(program, fuel)
+	if (len(all) == 0) != (endsErrno != weave.OK) || endsPlace != place || errno != weave.OK && endsErrno != errno {
+		t.Errorf("Ends(%.80q, %d) = %q %d %d, Check = %d %d", program, fuel, all, endsErrno, endsPlace, errno, place)
+	}
+	row, showErrno, showPlace := weave.Show(program, fuel, end)
+	if showErrno != weave.OK && row != "" || showPlace != place || endsErrno != weave.OK && showErrno != endsErrno {
+		t.Errorf("Show(%.80q, %d, %.80q) = %q %d %d, Ends = %d", program, fuel, end, row, showErrno, showPlace, endsErrno)
+	}
+	if isEnd := slices.Contains(all, end); endsErrno == weave.OK && isEnd != (showErrno == weave.OK) {
+		t.Errorf("Show(%.80q, %d, %.80q) = %q %d %d, Ends = %q", program, fuel, end, row, showErrno, showPlace, all)
+	}
 }
 
 // TestP2SameAnswers asks again, from many goroutines at once.
@@ -86,6 +106,9 @@ func TestP2SameAnswers(t *testing.T) {
 		{"lm|lm", 8, "01"},
 		{"lm|lm", 8, ""},
 		{"um|!a|j0", 2, "0122"},
+		{"=a1;wxa|rax;wya", 8, "EE:100"},
+		{"lm;um|lm;um|lm", 8, "EEE:000"},
+		{"lm;ln|ln;lm", 8, "B1B1:000"},
 		{"j9", 8, ""},
 		{"lm;", 8, ""},
 		{"lm", 9, ""},
@@ -123,6 +146,15 @@ func FuzzCalls(f *testing.F) {
 		end, errno, _ := weave.Play(program, fuel, row)
 		if (end == "") != (errno != weave.OK) {
 			t.Errorf("Play(%q, %d, %q) = %q %d", program, fuel, row, end, errno)
+		}
+		expectBesideSearch(t, program, fuel, end)
+		all, errno, _ := weave.Ends(program, fuel)
+		for _, end := range all {
+			expectShown(t, program, fuel, end)
+		}
+		if errno == weave.OK {
+			_, want := explore(program, fuel, mostStates)
+			expectEnds(t, program, fuel, want...)
 		}
 	})
 }

@@ -25,3 +25,21 @@ func ExamplePlay() {
 	// EE:100 0 0
 	// O1O1:000 0 0
 }
+
+func ExampleEnds() {
+	fmt.Println(weave.Ends("=a1;wxa|rax;wya", 8))
+	fmt.Println(weave.Ends("lm;ln;um;un|ln;lm;un;um", 8))
+	fmt.Println(weave.Ends("lm;", 8))
+	// Output:
+	// [EE:100 EE:110] 0 0
+	// [B1B1:000 EE:000] 0 0
+	// [] 2 3
+}
+
+func ExampleShow() {
+	fmt.Println(weave.Show("=a1;wxa|rax;wya", 8, "EE:110"))
+	fmt.Println(weave.Show("=a1;wxa|rax;wya", 8, "EE:000"))
+	// Output:
+	// 0011 0 0
+	//  8 0
+}

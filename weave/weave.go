@@ -35,10 +35,22 @@ func Play(program string, fuel int, row string) (end string, errno Errno, place 
 }
 
 // Ends tells all ways to end (P5).
-func Ends(program string, fuel int) ([]string, Errno, int) { return nil, 0, 0 }
+func Ends(program string, fuel int) (ends []string, errno Errno, place int) {
+	defer func() {
+		errno, place = refused(recover())
+	}()
+	m := read(program)
+	return m.ends(m.search(m.start(fuel))), OK, 0
+}
 
 // Show tells a row of turns that leads to an end (P6).
-func Show(program string, fuel int, end string) (string, Errno, int) { return "", 0, 0 }
+func Show(program string, fuel int, end string) (row string, errno Errno, place int) {
+	defer func() {
+		errno, place = refused(recover())
+	}()
+	m := read(program)
+	return m.show(m.search(m.start(fuel)), end), OK, 0
+}
 
 // Classes tells how many runs there are of which no two are alike (P7).
 func Classes(program string, fuel int) (int, Errno, int) { return 0, 0, 0 }
