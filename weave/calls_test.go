@@ -76,8 +76,8 @@ func TestP1BesideErrors(t *testing.T) {
 	})
 }
 
-// expectBesideSearch asks of Ends and Show that they answer an error of Check
-// as Check does, no place beside another one, and nothing else beside any.
+// expectBesideSearch asks of Ends, Show and Classes that they answer an error of
+// Check as Check does, no place beside another one, and nothing else beside any.
 func expectBesideSearch(t *testing.T, program string, fuel int, end string) {
 	t.Helper()
 	errno, place := weave.Check(program)
@@ -91,6 +91,13 @@ func expectBesideSearch(t *testing.T, program string, fuel int, end string) {
 	}
 	if isEnd := slices.Contains(all, end); endsErrno == weave.OK && isEnd != (showErrno == weave.OK) {
 		t.Errorf("Show(%.80q, %d, %.80q) = %q %d %d, Ends = %q", program, fuel, end, row, showErrno, showPlace, all)
+	}
+	count, classesErrno, classesPlace := weave.Classes(program, fuel)
+	if (count <= 0) != (classesErrno != weave.OK) || count < 0 || classesPlace != place || errno != weave.OK && classesErrno != errno {
+		t.Errorf("Classes(%.80q, %d) = %d %d %d, Check = %d %d", program, fuel, count, classesErrno, classesPlace, errno, place)
+	}
+	if (classesErrno == weave.ErrFuel) != (endsErrno == weave.ErrFuel) {
+		t.Errorf("Classes(%.80q, %d) = %d %d %d, Ends = %d", program, fuel, count, classesErrno, classesPlace, endsErrno)
 	}
 }
 
@@ -109,6 +116,8 @@ func TestP2SameAnswers(t *testing.T) {
 		{"=a1;wxa|rax;wya", 8, "EE:100"},
 		{"lm;um|lm;um|lm", 8, "EEE:000"},
 		{"lm;ln|ln;lm", 8, "B1B1:000"},
+		{"wxa;wxa|rax;rbx|wxa;wya", 8, "001122"},
+		{"wxa;wxa;wxa;wxa|wxa;wxa;wxa;wxa|wxa", 8, "EEE:000"},
 		{"j9", 8, ""},
 		{"lm;", 8, ""},
 		{"lm", 9, ""},
@@ -155,6 +164,9 @@ func FuzzCalls(f *testing.F) {
 		if errno == weave.OK {
 			_, want := explore(program, fuel, mostStates)
 			expectEnds(t, program, fuel, want...)
+			if counted := classesByPasts(program, fuel, 5000); counted >= 0 {
+				expectAsCounted(t, program, fuel, counted)
+			}
 		}
 	})
 }

@@ -43,3 +43,13 @@ func ExampleShow() {
 	// 0011 0 0
 	//  8 0
 }
+
+func ExampleClasses() {
+	fmt.Println(weave.Classes("=a1;wxa|rax;wya", 8))
+	fmt.Println(weave.Classes("=a1;wxa|ray;wya", 8))
+	fmt.Println(weave.Classes("wxa;wxa;wxa;wxa;wxa;wxa|wxa;wxa;wxa;wxa;wxa;wxa", 8))
+	// Output:
+	// 2 0 0
+	// 1 0 0
+	// 0 5 0
+}

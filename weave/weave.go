@@ -53,4 +53,10 @@ func Show(program string, fuel int, end string) (row string, errno Errno, place 
 }
 
 // Classes tells how many runs there are of which no two are alike (P7).
-func Classes(program string, fuel int) (int, Errno, int) { return 0, 0, 0 }
+func Classes(program string, fuel int) (count int, errno Errno, place int) {
+	defer func() {
+		errno, place = refused(recover())
+	}()
+	m := read(program)
+	return m.classes(m.start(fuel), nil, 0), OK, 0
+}
